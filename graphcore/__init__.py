@@ -1,0 +1,1 @@
+"""Small graphs, folded into themselves as far as they go."""

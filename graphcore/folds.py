@@ -1,0 +1,104 @@
+"""The fold and the core of a graph of 1 to 5 places.
+
+Within this file an arrow is a tuple (from where, to where), and a map is a list: what each place gets.
+"""
+
+NO_GRAPH = -22
+MOST_PLACES = 5
+
+
+def core(n, first):
+    """How many places the core has, these as the graph numbers them, then the core's arrows."""
+    if not is_graph(n, first):
+        return [NO_GRAPH]
+    arrows = paired(first)
+    places = hit(first_fold(n, arrows))
+    return [len(places)] + places + flat(arrows_between(places, arrows))
+
+
+def fold(n, first):
+    """How many places the graph has, then what each gets by the fold."""
+    if not is_graph(n, first):
+        return [NO_GRAPH]
+    return [n] + first_fold(n, paired(first))
+
+
+def is_graph(n, numbers):
+    """Whether n places and these numbers, two for each arrow, tell a graph."""
+    if n < 1 or n > MOST_PLACES:
+        return False
+    if len(numbers) % 2 == 1:
+        return False
+    if not all([0 <= number < n for number in numbers]):
+        return False
+    return is_rising(paired(numbers))
+
+
+def is_rising(arrows):
+    """Whether each arrow stands behind a lesser one; so none stands twice."""
+    for k in range(1, len(arrows)):
+        if arrows[k - 1] >= arrows[k]:
+            return False
+    return True
+
+
+def paired(numbers):
+    """The arrows that an even count of numbers tells."""
+    return [(numbers[k], numbers[k + 1]) for k in range(0, len(numbers), 2)]
+
+
+def flat(arrows):
+    """The arrows as numbers, two for each."""
+    numbers = []
+    for start, end in arrows:
+        numbers.append(start)
+        numbers.append(end)
+    return numbers
+
+
+def all_maps(n, arrows, m, others):
+    """All maps of one graph (n, arrows) into another (m, others), in order."""
+    found = [[]]
+    for place in range(n):
+        # An arrow is asked about once, as soon as both its ends get a place: what fails there is not grown further.
+        due = [arrow for arrow in arrows if max(arrow) == place]
+        # Lesser beginnings come first, and each grows by the lesser place first: that keeps the maps in order.
+        longer = []
+        for begun in found:
+            for given in range(m):
+                gets = begun + [given]
+                if carries(gets, due, others):
+                    longer.append(gets)
+        found = longer
+    return found
+
+
+def carries(gets, arrows, others):
+    """Whether each of the arrows becomes one of the others."""
+    for start, end in arrows:
+        if (gets[start], gets[end]) not in others:
+            return False
+    return True
+
+
+def hit(gets):
+    """The places that a map gives, rising."""
+    return sorted(set(gets))
+
+
+def count_hit(gets):
+    """How many places a map gives."""
+    return len(set(gets))
+
+
+def first_fold(n, arrows):
+    """The first map of the graph into itself by which the fewest places are hit."""
+    # There is always one, each place getting itself; and of several least ones, min takes the first.
+    return min(all_maps(n, arrows, n, arrows), key=count_hit)
+
+
+def arrows_between(places, arrows):
+    """The arrows from and to these rising places, which are numbered anew."""
+    # The new numbers rise as the old ones do, so the arrows stay in order.
+    kept = [arrow for arrow in arrows if arrow[0] in places and arrow[1] in places]
+    return [(places.index(start), places.index(end)) for start, end in kept]
