@@ -1,4 +1,4 @@
-"""The fold and the core of a graph of 1 to 5 places.
+"""The fold and the core of a graph of 1 to 5 places, and which graph may be mapped into which.
 
 Within this file an arrow is a tuple (from where, to where), and a map is a list: what each place gets.
 """
@@ -21,6 +21,22 @@ def fold(n, first):
     if not is_graph(n, first):
         return [NO_GRAPH]
     return [n] + first_fold(n, paired(first))
+
+
+def iscore(n, first):
+    """1 if the graph is a core, else 0."""
+    if not is_graph(n, first):
+        return [NO_GRAPH]
+    return [1 if count_hit(first_fold(n, paired(first))) == n else 0]
+
+
+def below(n, m, first, second):
+    """1 if the first graph may be mapped into the second, else 0; then 1 if the second into the first, else 0."""
+    if not is_graph(n, first) or not is_graph(m, second):
+        return [NO_GRAPH]
+    arrows = paired(first)
+    others = paired(second)
+    return [1 if has_map(n, arrows, m, others) else 0, 1 if has_map(m, others, n, arrows) else 0]
 
 
 def is_graph(n, numbers):
@@ -71,6 +87,11 @@ def all_maps(n, arrows, m, others):
                     longer.append(gets)
         found = longer
     return found
+
+
+def has_map(n, arrows, m, others):
+    """Whether one graph (n, arrows) may be mapped into another (m, others)."""
+    return len(all_maps(n, arrows, m, others)) > 0
 
 
 def carries(gets, arrows, others):

@@ -26,6 +26,18 @@ def maps(n, arrows, m, others):
             if all((gets[u], gets[v]) in others for u, v in arrows)]
 
 
+def below_of(n, m, first, second):
+    """Whether each of two graphs, told as numbers, may be mapped into the other, as 1 or 0."""
+    arrows, others = arrows_of(first), arrows_of(second)
+    return [int(bool(maps(n, arrows, m, others))), int(bool(maps(m, others, n, arrows)))]
+
+
+def same_but_for_names(n, arrows, m, others):
+    """Whether some map gives each place, none twice, and hits each arrow."""
+    return n == m and any(len(set(gets)) == n and {(gets[u], gets[v]) for u, v in arrows} == set(others)
+                          for gets in maps(n, arrows, m, others))
+
+
 def fold_of(n, arrows):
     best = None
     for gets in maps(n, arrows, n, arrows):
@@ -75,6 +87,30 @@ def graphs_to_try():
         yield n, both_ways(*[(k, (k + 1) % n) for k in range(n)])
         yield n, numbers_of((k, (k + 1) % n) for k in range(n))
         yield n, numbers_of((u, v) for u in range(n) for v in range(n) if u != v)
+
+
+def few_graphs():
+    """Some graphs of each count of places, few enough to try each with each."""
+    for n in (1, 2):
+        for first in every_graph(n):
+            yield n, first
+    for n in (3, 4, 5):
+        yield n, []
+        yield n, numbers_of((k, (k + 1) % n) for k in range(n))
+        yield n, numbers_of((k, k + 1) for k in range(n - 1))
+        yield n, numbers_of((u, v) for u in range(n) for v in range(u + 1, n))
+        yield n, numbers_of((u, v) for u in range(n) for v in range(n) if u != v)
+        yield n, both_ways(*[(k, (k + 1) % n) for k in range(n)])
+        for first in drawn_graphs(n, 18):
+            yield n, first
+
+
+def pairs_to_try():
+    """Two graphs at a time, of like and unlike counts of places, each way round: n, m, first, second."""
+    few = list(few_graphs())
+    for n, first in few:
+        for m, second in few:
+            yield n, m, first, second
 
 
 def no_graphs():
