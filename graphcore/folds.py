@@ -1,9 +1,10 @@
-"""The fold and the core of a graph of 1 to 5 places, and which graph may be mapped into which.
+"""The fold and the core of a graph of 1 to 5 places, what its maps hold fast, and which graph may be mapped into which.
 
 Within this file an arrow is a tuple (from where, to where), and a map is a list: what each place gets.
 """
 
 NO_GRAPH = -22
+NO_PLACES = -22
 MOST_PLACES = 5
 
 
@@ -39,6 +40,26 @@ def below(n, m, first, second):
     return [1 if has_map(n, arrows, m, others) else 0, 1 if has_map(m, others, n, arrows) else 0]
 
 
+def on(n, first, places):
+    """How many places are told, then the arrows between them, numbered anew as the places rise."""
+    if not is_graph(n, first):
+        return [NO_GRAPH]
+    if not are_places(n, places):
+        return [NO_PLACES]
+    return [len(places)] + flat(arrows_between(places, paired(first)))
+
+
+def fast(n, first):
+    """How many maps of the graph into itself there are, how many hold fast what they hit, how many give none twice."""
+    if not is_graph(n, first):
+        return [NO_GRAPH]
+    arrows = paired(first)
+    found = all_maps(n, arrows, n, arrows)
+    holding = [gets for gets in found if holds_fast(gets)]
+    parting = [gets for gets in found if gives_none_twice(gets)]
+    return [len(found), len(holding), len(parting)]
+
+
 def is_graph(n, numbers):
     """Whether n places and these numbers, two for each arrow, tell a graph."""
     if n < 1 or n > MOST_PLACES:
@@ -50,10 +71,19 @@ def is_graph(n, numbers):
     return is_rising(paired(numbers))
 
 
-def is_rising(arrows):
-    """Whether each arrow stands behind a lesser one; so none stands twice."""
-    for k in range(1, len(arrows)):
-        if arrows[k - 1] >= arrows[k]:
+def are_places(n, places):
+    """Whether these are places, at least one, of a graph of n places, rising."""
+    if len(places) == 0:
+        return False
+    if not all([0 <= place < n for place in places]):
+        return False
+    return is_rising(places)
+
+
+def is_rising(row):
+    """Whether each arrow or place of the row stands behind a lesser one; so none stands twice."""
+    for k in range(1, len(row)):
+        if row[k - 1] >= row[k]:
             return False
     return True
 
@@ -110,6 +140,16 @@ def hit(gets):
 def count_hit(gets):
     """How many places a map gives."""
     return len(set(gets))
+
+
+def gives_none_twice(gets):
+    """Whether a map gives no place twice."""
+    return count_hit(gets) == len(gets)
+
+
+def holds_fast(gets):
+    """Whether each place that a map of a graph into itself hits gets itself."""
+    return all([gets[place] == place for place in gets])
 
 
 def first_fold(n, arrows):

@@ -59,6 +59,29 @@ def split_core(answer):
     return answer[1:count + 1], arrows_of(answer[count + 1:])
 
 
+def on_of(first, places):
+    """How many places, and the arrows between them, numbered anew."""
+    anew = {place: k for k, place in enumerate(places)}
+    return [len(places)] + numbers_of((anew[u], anew[v]) for u, v in arrows_of(first) if {u, v} <= set(places))
+
+
+def fast_of(n, first):
+    """How many maps into itself, how many that hold fast what they hit, how many that give no place twice."""
+    arrows = arrows_of(first)
+    every = maps(n, arrows, n, arrows)
+    return [len(every),
+            # A map holds fast what it hits just if, done a second time, it changes nothing more.
+            sum(tuple(gets[gets[place]] for place in range(n)) == gets for gets in every),
+            sum(sorted(gets) == list(range(n)) for gets in every)]
+
+
+def choices_of_places(n):
+    """Every choice of at least one of n places, rising."""
+    for count in range(1, n + 1):
+        for chosen in itertools.combinations(range(n), count):
+            yield list(chosen)
+
+
 def every_graph(n):
     """Every graph of n places, as numbers."""
     possible = list(itertools.product(range(n), repeat=2))
@@ -146,6 +169,31 @@ def no_graphs():
     yield "all arrows, then more, 60 numbers", 5, full + full[:10]
     yield "all arrows, the last again, 60 numbers", 5, full + [4, 4] * 5
     yield "60 numbers of one place", 1, [0] * 60
+
+
+def no_places():
+    """What isn't places of a graph of n places, rising: why, n, the numbers."""
+    for n in range(1, 6):
+        yield "empty", n, []
+        yield "the number behind the last place", n, [n]
+        yield "all places, then the number behind", n, list(range(n + 1))
+        yield "the largest number", n, [LARGEST]
+        yield "a place, then the largest number", n, [0, LARGEST]
+        yield "the largest number, then a place", n, [LARGEST, 0]
+        yield "the largest number, 8 times", n, [LARGEST] * 8
+        yield "2^31", n, [2 ** 31]
+        yield "2^31 behind a place", n, [0, 2 ** 31]
+        yield "8 numbers, rising", n, list(range(8))
+        yield "8 large numbers, rising", n, list(range(LARGEST - 7, LARGEST + 1))
+        yield "a place twice", n, [n - 1, n - 1]
+        yield "the first place twice", n, [0, 0]
+        yield "one place, 8 times", n, [0] * 8
+        yield "all places, the last one twice", n, list(range(n)) + [n - 1]
+        yield "all places, then the first again", n, list(range(n)) + [0]
+        if n > 1:
+            yield "falling", n, [n - 1, 0]
+            yield "all places, falling", n, list(range(n))[::-1]
+            yield "the last two change places", n, [*range(n - 2), n - 1, n - 2]
 
 
 class Untouchable(list):
