@@ -1,10 +1,11 @@
-"""The fold and the core of a graph of 1 to 5 places, what its maps hold fast, and which graph may be mapped into which.
+"""The fold and the core of a graph of 1 to 5 places, what its maps hold fast, and how two such graphs compare.
 
 Within this file an arrow is a tuple (from where, to where), and a map is a list: what each place gets.
 """
 
 NO_GRAPH = -22
 NO_PLACES = -22
+NOT_ALIKE = -33
 MOST_PLACES = 5
 
 
@@ -13,7 +14,7 @@ def core(n, first):
     if not is_graph(n, first):
         return [NO_GRAPH]
     arrows = paired(first)
-    places = hit(first_fold(n, arrows))
+    places = core_places(n, arrows)
     return [len(places)] + places + flat(arrows_between(places, arrows))
 
 
@@ -58,6 +59,22 @@ def fast(n, first):
     holding = [gets for gets in found if holds_fast(gets)]
     parting = [gets for gets in found if gives_none_twice(gets)]
     return [len(found), len(holding), len(parting)]
+
+
+def alike(n, m, first, second):
+    """How many places the first's core has, then the first map by which it is the second's core but for names."""
+    if not is_graph(n, first) or not is_graph(m, second):
+        return [NO_GRAPH]
+    arrows = paired(first)
+    others = paired(second)
+    places = core_places(n, arrows)
+    other_places = core_places(m, others)
+    kept = arrows_between(places, arrows)
+    other_kept = arrows_between(other_places, others)
+    found = renamings(len(places), kept, len(other_places), other_kept)
+    if len(found) == 0:
+        return [NOT_ALIKE]
+    return [len(places)] + found[0]
 
 
 def is_graph(n, numbers):
@@ -132,6 +149,19 @@ def carries(gets, arrows, others):
     return True
 
 
+def renamings(n, arrows, m, others):
+    """All maps, in order, by which one graph (n, arrows) and another (m, others) are the same but for names."""
+    return [gets for gets in all_maps(n, arrows, m, others) if changes_names_alone(gets, arrows, m, others)]
+
+
+def changes_names_alone(gets, arrows, m, others):
+    """Whether a map into a graph (m, others) gives no place twice, gives each, and hits each arrow."""
+    if not gives_none_twice(gets) or count_hit(gets) != m:
+        return False
+    became = [(gets[start], gets[end]) for start, end in arrows]
+    return all([other in became for other in others])
+
+
 def hit(gets):
     """The places that a map gives, rising."""
     return sorted(set(gets))
@@ -156,6 +186,11 @@ def first_fold(n, arrows):
     """The first map of the graph into itself by which the fewest places are hit."""
     # There is always one, each place getting itself; and of several least ones, min takes the first.
     return min(all_maps(n, arrows, n, arrows), key=count_hit)
+
+
+def core_places(n, arrows):
+    """The places of the core as the graph numbers them, rising."""
+    return hit(first_fold(n, arrows))
 
 
 def arrows_between(places, arrows):

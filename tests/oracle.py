@@ -1,9 +1,11 @@
 """What the tests share: graphs to try, and the document's meanings told once more, without the package."""
 
+import functools
 import itertools
 import random
 
 REFUSED = [-22]
+UNLIKE = [-33]
 LARGEST = 4294967295
 
 
@@ -53,6 +55,12 @@ def core_of(n, arrows):
     return places, [(anew[u], anew[v]) for u, v in sorted(arrows) if u in anew and v in anew]
 
 
+@functools.cache
+def core_told_once(n, numbers):
+    """The same, but found once for each graph: many pairs have a graph in common."""
+    return core_of(n, arrows_of(numbers))
+
+
 def split_core(answer):
     """A core's answer as its places and its arrows."""
     count = answer[0]
@@ -73,6 +81,22 @@ def fast_of(n, first):
             # A map holds fast what it hits just if, done a second time, it changes nothing more.
             sum(tuple(gets[gets[place]] for place in range(n)) == gets for gets in every),
             sum(sorted(gets) == list(range(n)) for gets in every)]
+
+
+def alike_of(n, m, first, second):
+    """The first change of names by which two graphs' cores are the same, or the refusal."""
+    places, arrows = core_told_once(n, tuple(first))
+    other_places, others = core_told_once(m, tuple(second))
+    if len(places) == len(other_places):
+        for gets in itertools.permutations(range(len(places))):
+            if {(gets[u], gets[v]) for u, v in arrows} == set(others):
+                return [len(places), *gets]
+    return UNLIKE
+
+
+def renamed(first, names):
+    """The graph with each place called as names say."""
+    return numbers_of((names[u], names[v]) for u, v in arrows_of(first))
 
 
 def choices_of_places(n):
